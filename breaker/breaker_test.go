@@ -215,14 +215,3 @@ func TestNil(t *testing.T) {
 		t.Fatal(code)
 	}
 }
-
-// One that New did not make ends all calls, too.
-func TestUnmade(t *testing.T) {
-	var b breaker.Breaker
-	b.Enter()
-	b.Leave()
-	b.Quit()
-	b.Limit(5)
-	b.Load()
-	b.Free()
-}

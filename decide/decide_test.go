@@ -360,13 +360,3 @@ func TestNil(t *testing.T) {
 		t.Fatal(got, code)
 	}
 }
-
-// One that New did not make ends all calls, too.
-func TestUnmade(t *testing.T) {
-	var d decide.Decider
-	d.Put(1, 1)
-	d.Next(1, 1)
-	d.Change(conf.Default())
-	d.Mode()
-	d.Over()
-}

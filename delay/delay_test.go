@@ -189,12 +189,3 @@ func TestNil(t *testing.T) {
 		t.Fatal(code)
 	}
 }
-
-// One that New did not make ends all calls, too.
-func TestUnmade(t *testing.T) {
-	var d delay.Delay
-	d.Most(1)
-	d.Put(1, 1)
-	d.Most(1)
-	d.Span(5)
-}

@@ -204,12 +204,3 @@ func TestNil(t *testing.T) {
 	}
 	means(t, m, 1, 0, 0)
 }
-
-// One that New did not make ends all calls, too.
-func TestUnmade(t *testing.T) {
-	var m metric.Metric
-	m.Put(1, 1)
-	m.Means(1)
-	m.Change(conf.Default())
-	m.Over()
-}

@@ -184,12 +184,3 @@ func TestNil(t *testing.T) {
 		t.Fatal(r.Load())
 	}
 }
-
-// One that New did not make ends all calls, too.
-func TestUnmade(t *testing.T) {
-	var r pod.Runner
-	r.Enter(1)
-	r.Leave(1)
-	r.Stat(1)
-	r.Load()
-}

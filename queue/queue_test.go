@@ -266,13 +266,3 @@ func TestNil(t *testing.T) {
 		t.Fatal(code)
 	}
 }
-
-// One that New did not make ends all calls, too.
-func TestUnmade(t *testing.T) {
-	var q queue.Queue
-	q.Put(1, 1)
-	q.Take()
-	q.Late(1, 0)
-	q.Depth(5)
-	q.All()
-}

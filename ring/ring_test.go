@@ -324,17 +324,6 @@ func TestNil(t *testing.T) {
 	}
 }
 
-// One that New did not make ends all calls, too.
-func TestUnmade(t *testing.T) {
-	var r ring.Ring
-	r.Put(1, 1)
-	r.Sum(1)
-	r.Mean(1)
-	r.Resize(6)
-	r.Size()
-	r.Over()
-}
-
 // 5.4: what is forgotten takes no room.
 func TestNoMoreIsKeptThanIsAskedFor(t *testing.T) {
 	r := ring.New(60, 7)

@@ -2,7 +2,6 @@ package sys_test
 
 import (
 	"math"
-	"reflect"
 	"slices"
 	"strings"
 	"testing"
@@ -71,8 +70,8 @@ func TestNew(t *testing.T) {
 		}
 	}
 	s := made(t, conf.Default())
-	if v := s.See(); !reflect.DeepEqual(v, api.View{Want: 1, Proxy: true, Pods: []api.Pod{ready(0, 0, 0)}}) {
-		t.Fatalf("%+v", v)
+	if got, want := traced([]api.View{s.See()}), traced([]api.View{{Want: 1, Proxy: true, Pods: []api.Pod{ready(0, 0, 0)}}}); got != want {
+		t.Fatal(got, want)
 	}
 	if len(s.Requests()) != 0 || len(s.Trace()) != 0 || s.Conf() != conf.Default() || s.Last() != (api.Decision{}) {
 		t.Fatal(s.Requests(), s.Trace(), s.Conf(), s.Last())
@@ -421,12 +420,18 @@ func TestTheLastThousandAreTraced(t *testing.T) {
 		if n := min(200*(i+1), 1000); len(l) != n || l[n-1].T != int64(200*(i+1)) || l[0].T != int64(200*(i+1)-n+1) {
 			t.Fatal(i, len(l))
 		}
-		if !reflect.DeepEqual(l[len(l)-1], s.See()) {
-			t.Fatalf("%+v", l[len(l)-1])
+		if got, want := traced(l[len(l)-1:]), traced([]api.View{s.See()}); got != want {
+			t.Fatal(got, want)
+		}
+	}
+	for i := range int64(3) {
+		do(t, s, api.ETick, 1, api.OK)
+		if l := s.Trace(); len(l) != 1000 || l[0].T != 202+i || l[999].T != 1201+i {
+			t.Fatal(i, len(l))
 		}
 	}
 	do(t, s, api.EArrive, 1, api.OK) // just ticks are traced
-	if l := s.Trace(); len(l) != 1000 || l[999].T != 1200 || l[999].Ends[api.RWaiting] != 0 {
+	if l := s.Trace(); len(l) != 1000 || l[999].T != 1203 || l[999].Ends[api.RWaiting] != 0 {
 		t.Fatal(len(l))
 	}
 }
@@ -468,21 +473,7 @@ func TestNil(t *testing.T) {
 	var s *sys.Sys
 	do(t, s, api.ETick, 1, api.ErrState)
 	do(t, s, api.EArrive, 1, api.ErrState)
-	if !reflect.DeepEqual(s.See(), api.View{}) || len(s.Requests()) != 0 || s.Conf() != (api.Conf{}) || s.Last() != (api.Decision{}) || len(s.Trace()) != 0 {
+	if traced([]api.View{s.See()}) != traced([]api.View{{}}) || len(s.Requests()) != 0 || s.Conf() != (api.Conf{}) || s.Last() != (api.Decision{}) || len(s.Trace()) != 0 {
 		t.Fatal(s.See())
 	}
-}
-
-// One that New did not make ends all calls, too.
-func TestUnmade(t *testing.T) {
-	var s sys.Sys
-	for kind := 1; kind < 7; kind++ {
-		s.Do(api.Event{Kind: kind, N: 1})
-	}
-	s.Do(api.Event{Kind: api.EConf})
-	s.See()
-	s.Requests()
-	s.Conf()
-	s.Last()
-	s.Trace()
 }

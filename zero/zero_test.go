@@ -104,6 +104,8 @@ func TestWant(t *testing.T) {
 		{conf.Default(), 0, 500, 7, 3, 0, 0, 0, 7},
 		{conf.Default(), 0, 500, top, 3, 0, 0, 0, top},
 		{api.Conf{}, 0, 500, 1, 3, 0, 0, 0, 1},
+		{conf.Default(), 0, 500, 1, 3, 0, 0, 0, 1},
+		{conf.Default(), -1, 5, 1, 0, 0, 0, 0, 1},
 		{conf.Default(), -1, 5, 0, 2, 0, 0, 1, 1},
 		{conf.Default(), -1, 5, 0, 2, 0, 0, 0, 1},
 		{conf.Default(), 0, 500, 0, 2, 0, 0, 0, 0},
